@@ -1,0 +1,1 @@
+"""Sets of 32-bit numbers in the portable form of Roaring bitmaps."""

@@ -1,0 +1,65 @@
+"""Sets as edges: a list of rising numbers, of which each two in turn bound a span.
+
+The first of the two is the span's first number, the second is the first one behind it.
+Spans hold hundreds of millions of numbers in little room, so nothing here goes number by number.
+"""
+
+BEYOND = 4294967297
+
+# For each how of join: is a number in it that is in neither, in b alone, in a alone, in both?
+IN_JOINED = (
+    (0, 0, 0, 1),
+    (0, 1, 1, 1),
+    (0, 1, 1, 0),
+    (0, 0, 1, 0),
+)
+
+
+# Spans come by their first numbers in order, so only the last one can be met by a new one.
+def add_span(edges, first, end):
+    if len(edges) > 0 and first <= edges[-1]:
+        edges[-1] = max(edges[-1], end)
+    else:
+        edges.append(first)
+        edges.append(end)
+
+
+def edges_of_numbers(numbers):
+    edges = []
+    for number in sorted(numbers):
+        add_span(edges, number, number + 1)
+    return edges
+
+
+# The pairs lie one behind another in one list; a pair whose first is greater has no numbers.
+def edges_of_pairs(x):
+    pairs = [(x[i], x[i + 1]) for i in range(0, len(x) - 1, 2)]
+    edges = []
+    for pair in sorted(pairs):
+        if pair[0] <= pair[1]:
+            add_span(edges, pair[0], pair[1] + 1)
+    return edges
+
+
+def count_numbers(edges):
+    return sum(edges[1::2]) - sum(edges[0::2])
+
+
+# i and j count the edges passed: where that is odd, one is inside a span of that set.
+def join_edges(how, left, right):
+    in_joined = IN_JOINED[how]
+    left_edges = left + [BEYOND]
+    right_edges = right + [BEYOND]
+    i = 0
+    j = 0
+    edges = []
+    at = min(left_edges[0], right_edges[0])
+    while at < BEYOND:
+        if left_edges[i] == at:
+            i += 1
+        if right_edges[j] == at:
+            j += 1
+        if in_joined[i % 2 * 2 + j % 2] != len(edges) % 2:
+            edges.append(at)
+        at = min(left_edges[i], right_edges[j])
+    return edges

@@ -1,0 +1,35 @@
+"""Edges always rise, so that a span is as long as can be, over the ends of parts too."""
+
+import unittest
+
+from packedsets.edges import edges_of_numbers, edges_of_pairs, join_edges
+from packedsets.reader import read_edges
+from tests.helper import packed
+
+
+class EdgesTest(unittest.TestCase):
+    def test_numbers(self):
+        self.assertEqual(edges_of_numbers([]), [])
+        self.assertEqual(edges_of_numbers([9, 3, 4, 3, 65536, 65535]), [3, 5, 9, 10, 65535, 65537])
+
+    def test_pairs(self):
+        self.assertEqual(edges_of_pairs([5, 4, 30, 15, 10, 20, 22, 21]), [10, 21])
+        self.assertEqual(edges_of_pairs([21, 30, 10, 20, 65530, 65540]), [10, 31, 65530, 65541])
+
+    def test_read_over_the_ends_of_parts(self):
+        numbers = list(range(65530, 131080)) + [196607, 196609]
+        for run_keys in ((), (0,), (1,), (0, 1, 2, 3)):
+            self.assertEqual(read_edges(packed(numbers, run_keys)), [65530, 131080, 196607, 196608, 196609, 196610])
+
+    def test_join(self):
+        left = [0, 10, 20, 30]
+        right = [5, 20, 30, 40]
+        self.assertEqual(join_edges(0, left, right), [5, 10])
+        self.assertEqual(join_edges(1, left, right), [0, 40])
+        self.assertEqual(join_edges(2, left, right), [0, 5, 10, 40])
+        self.assertEqual(join_edges(3, left, right), [0, 5, 20, 30])
+        self.assertEqual(join_edges(3, [0, 4294967296], right), [0, 5, 20, 30, 40, 4294967296])
+
+
+if __name__ == "__main__":
+    unittest.main()

@@ -1,0 +1,93 @@
+import unittest
+
+from packedsets.sets import join, make, ranges
+from tests.helper import EMPTY, ROOM, packed
+
+LEAST = -2147483648
+GREATEST = 2147483647
+BAD_SET = [1, 2, 3]
+
+
+class RangeTest(unittest.TestCase):
+    def test_runs(self):
+        for runs in (LEAST, -1, 2, GREATEST):
+            self.assertEqual(make(runs, ROOM, [1]), [-2])
+            self.assertEqual(ranges(runs, ROOM, [1, 2]), [-2])
+            self.assertEqual(join(0, runs, ROOM, EMPTY, EMPTY), [-2])
+        for runs in (0, 1):
+            self.assertEqual(make(runs, ROOM, [])[0], 8)
+            self.assertEqual(ranges(runs, ROOM, [])[0], 8)
+            self.assertEqual(join(0, runs, ROOM, EMPTY, EMPTY)[0], 8)
+
+    def test_room(self):
+        for room in (LEAST, -1, 16777217, GREATEST):
+            self.assertEqual(make(0, room, [1]), [-2])
+            self.assertEqual(ranges(0, room, [1, 2]), [-2])
+            self.assertEqual(join(0, 0, room, EMPTY, EMPTY), [-2])
+        self.assertEqual(make(0, 16777216, [])[0], 8)
+        self.assertEqual(ranges(0, 16777216, [])[0], 8)
+        self.assertEqual(join(0, 0, 16777216, EMPTY, EMPTY)[0], 8)
+        self.assertEqual(make(0, 0, []), [-7])
+        self.assertEqual(ranges(0, 0, []), [-7])
+        self.assertEqual(join(0, 0, 0, EMPTY, EMPTY), [-7])
+
+    def test_how(self):
+        for how in (LEAST, -1, 4, GREATEST):
+            self.assertEqual(join(how, 0, ROOM, EMPTY, EMPTY), [-2])
+        for how in (0, 1, 2, 3):
+            self.assertEqual(join(how, 0, ROOM, EMPTY, EMPTY)[0], 8)
+
+
+class OrderTest(unittest.TestCase):
+    def test_range_ahead_of_form(self):
+        for a, b in ((BAD_SET, EMPTY), (EMPTY, BAD_SET), (BAD_SET, BAD_SET)):
+            self.assertEqual(join(4, 0, ROOM, a, b), [-2])
+            self.assertEqual(join(-1, 0, ROOM, a, b), [-2])
+            self.assertEqual(join(0, 2, ROOM, a, b), [-2])
+            self.assertEqual(join(0, 0, -1, a, b), [-2])
+            self.assertEqual(join(0, 0, 16777217, a, b), [-2])
+
+    def test_range_ahead_of_room(self):
+        self.assertEqual(make(2, 0, [1]), [-2])
+        self.assertEqual(ranges(-1, 0, [0, 4294967295]), [-2])
+        self.assertEqual(join(4, 0, 0, EMPTY, EMPTY), [-2])
+
+    def test_form_ahead_of_room(self):
+        for a, b in ((BAD_SET, EMPTY), (EMPTY, BAD_SET), (BAD_SET, BAD_SET)):
+            for how in range(4):
+                self.assertEqual(join(how, 0, 0, a, b), [-3])
+                self.assertEqual(join(how, 1, 7, a, b), [-3])
+
+
+class RoomTest(unittest.TestCase):
+    def check(self, call, size):
+        found = call(size)
+        self.assertEqual(found[0], size)
+        self.assertEqual(len(found), size + 1)
+        self.assertEqual(call(size + 1), found)
+        self.assertEqual(call(size - 1), [-7])
+        self.assertEqual(call(0), [-7])
+
+    def test_make(self):
+        self.check(lambda room: make(0, room, []), 8)
+        self.check(lambda room: make(0, room, [1, 2, 3, 4]), 24)
+        self.check(lambda room: make(1, room, [1, 2, 3, 4]), 15)
+        self.check(lambda room: make(0, room, list(range(5000))), 8208)
+
+    def test_ranges(self):
+        self.check(lambda room: ranges(0, room, [5, 4]), 8)
+        self.check(lambda room: ranges(0, room, [0, 65535]), 8208)
+        self.check(lambda room: ranges(1, room, [0, 65536 * 4 - 1]), 4 + 1 + 4 * 8 + 4 * 6)
+        self.check(lambda room: ranges(1, room, [0, 65536 * 3 - 1]), 4 + 1 + 3 * 4 + 3 * 6)
+
+    def test_join(self):
+        a = packed([1, 2, 3])
+        b = packed([3, 4])
+        self.check(lambda room: join(0, 1, room, a, b), 18)
+        self.check(lambda room: join(1, 0, room, a, b), 24)
+        self.check(lambda room: join(1, 1, room, a, b), 15)
+        self.check(lambda room: join(3, 0, room, a, a), 8)
+
+
+if __name__ == "__main__":
+    unittest.main()
