@@ -4,7 +4,12 @@ The first of the two is the span's first number, the second is the first one beh
 Spans hold hundreds of millions of numbers in little room, so nothing here goes number by number.
 """
 
+# A span up to the greatest number ends here, so that only what is greater is never an edge.
+LIMIT = 4294967296
 BEYOND = 4294967297
+
+# One how of join.
+IN_JUST_ONE = 2
 
 # For each how of join: is a number in it that is in neither, in b alone, in a alone, in both?
 IN_JOINED = (
@@ -63,3 +68,19 @@ def join_edges(how, left, right):
             edges.append(at)
         at = min(left_edges[i], right_edges[j])
     return edges
+
+
+def flip_edges(edges, first, last):
+    return join_edges(IN_JUST_ONE, edges, edges_of_pairs([first, last]))
+
+
+# Spans are apart by as much as before, so none comes to touch another.
+def move_edges(edges, by):
+    moved = []
+    for i in range(0, len(edges), 2):
+        first = max(edges[i] + by, 0)
+        end = min(edges[i + 1] + by, LIMIT)
+        if first < end:
+            moved.append(first)
+            moved.append(end)
+    return moved

@@ -1,6 +1,6 @@
 """The calls: each takes plain values and answers one list of whole numbers."""
 
-from packedsets.edges import edges_of_numbers, edges_of_pairs, join_edges
+from packedsets.edges import count_numbers, edges_of_numbers, edges_of_pairs, flip_edges, join_edges, move_edges
 from packedsets.reader import NotASet, read_edges
 from packedsets.writer import plan_parts, set_bytes, set_size
 
@@ -10,6 +10,7 @@ NO_ROOM = -7
 
 MOST_ROOM = 16777216
 LAST_HOW = 3
+FARTHEST = 4294967296
 
 
 def may_write(runs, room):
@@ -45,3 +46,31 @@ def join(how, runs, room, a, b):
     except NotASet:
         return [NOT_A_SET]
     return answer_set(join_edges(how, left, right), runs, room)
+
+
+def flip(start, to, runs, room, a):
+    if not may_write(runs, room):
+        return [OUT_OF_RANGE]
+    try:
+        edges = read_edges(a)
+    except NotASet:
+        return [NOT_A_SET]
+    return answer_set(flip_edges(edges, start, to), runs, room)
+
+
+def move(by, runs, room, a):
+    if not -FARTHEST <= by <= FARTHEST or not may_write(runs, room):
+        return [OUT_OF_RANGE]
+    try:
+        edges = read_edges(a)
+    except NotASet:
+        return [NOT_A_SET]
+    return answer_set(move_edges(edges, by), runs, room)
+
+
+def count(a):
+    try:
+        edges = read_edges(a)
+    except NotASet:
+        return [NOT_A_SET]
+    return [count_numbers(edges)]

@@ -48,9 +48,11 @@ def assemble(entries):
         front = struct.pack("<II", 12346, p) + heads
     if not with_runs or p >= 4:
         place = len(front) + 4 * p
+        places = []
         for entry in entries:
-            front += struct.pack("<I", place)
+            places.append(place)
             place += len(entry[3])
+        front += struct.pack("<%dI" % p, *places)
     return list(front + b"".join(entry[3] for entry in entries))
 
 
@@ -147,3 +149,31 @@ def model_join(how, a, b):
     a = set(a)
     b = set(b)
     return (a & b, a | b, a ^ b, a - b)[how]
+
+
+def model_flip(start, to, a):
+    return set(a) ^ set(range(start, to + 1))
+
+
+def model_move(by, a):
+    return [number + by for number in a if 0 <= number + by <= 4294967295]
+
+
+def mixed_numbers(random):
+    """Numbers of a few parts: sparse, dense, in spans or full."""
+    numbers = []
+    for key in random.sample(range(6), random.randrange(5)):
+        base = 65536 * key
+        kind = random.randrange(5)
+        if kind == 0:
+            numbers.extend(base + random.randrange(65536) for i in range(random.randrange(1, 30)))
+        elif kind == 1:
+            numbers.extend(range(base + random.randrange(2), base + 65536, random.randrange(2, 15)))
+        elif kind == 2:
+            first = random.randrange(60000)
+            numbers.extend(range(base + first, base + first + random.randrange(1, 5000)))
+        elif kind == 3:
+            numbers.extend(range(base, base + 65536))
+        else:
+            numbers.extend(base + 100 * i + j for i in range(20) for j in range(random.randrange(1, 9)))
+    return numbers

@@ -2,7 +2,7 @@
 
 import unittest
 
-from packedsets.edges import edges_of_numbers, edges_of_pairs, join_edges
+from packedsets.edges import edges_of_numbers, edges_of_pairs, flip_edges, join_edges, move_edges
 from packedsets.reader import read_edges
 from tests.helper import packed
 
@@ -29,6 +29,20 @@ class EdgesTest(unittest.TestCase):
         self.assertEqual(join_edges(2, left, right), [0, 5, 10, 40])
         self.assertEqual(join_edges(3, left, right), [0, 5, 20, 30])
         self.assertEqual(join_edges(3, [0, 4294967296], right), [0, 5, 20, 30, 40, 4294967296])
+
+    def test_flip(self):
+        self.assertEqual(flip_edges([10, 20], 5, 9), [5, 20])
+        self.assertEqual(flip_edges([10, 20], 10, 19), [])
+        self.assertEqual(flip_edges([10, 20], 15, 4294967295), [10, 15, 20, 4294967296])
+        self.assertEqual(flip_edges([10, 20], 15, 14), [10, 20])
+
+    def test_move(self):
+        edges = [0, 10, 20, 4294967296]
+        self.assertEqual(move_edges(edges, 5), [5, 15, 25, 4294967296])
+        self.assertEqual(move_edges(edges, -10), [10, 4294967286])
+        self.assertEqual(move_edges(edges, -9), [0, 1, 11, 4294967287])
+        self.assertEqual(move_edges(edges, 4294967276), [4294967276, 4294967286])
+        self.assertEqual(move_edges(edges, 4294967275), [4294967275, 4294967285, 4294967295, 4294967296])
 
 
 if __name__ == "__main__":

@@ -2,7 +2,7 @@ import struct
 import unittest
 from random import Random
 
-from packedsets.sets import join
+from packedsets.sets import count, flip, join, move
 from tests.helper import EMPTY, ROOM, assemble, model_read, packed, written
 
 
@@ -23,11 +23,20 @@ class FormTest(unittest.TestCase):
         for how in range(4):
             self.assertEqual(join(how, 0, ROOM, a, EMPTY), [-3])
             self.assertEqual(join(how, 1, ROOM, EMPTY, a), [-3])
+        # Not even where what is asked for doesn't turn on what a holds.
+        for start, to in ((0, 4294967295), (5, 5), (1, 0)):
+            self.assertEqual(flip(start, to, 1, ROOM, a), [-3])
+        for by in (-4294967296, 0, 1, 4294967296):
+            self.assertEqual(move(by, 0, ROOM, a), [-3])
+        self.assertEqual(count(a), [-3])
         self.assertIsNone(model_read(a))
 
     def taken(self, a, numbers):
         self.assertEqual(join(1, 0, ROOM, a, EMPTY), written(numbers, 0))
         self.assertEqual(join(1, 1, ROOM, EMPTY, a), written(numbers, 1))
+        self.assertEqual(flip(1, 0, 1, ROOM, a), written(numbers, 1))
+        self.assertEqual(move(0, 0, ROOM, a), written(numbers, 0))
+        self.assertEqual(count(a), [len(numbers)])
 
     def changed(self, a, place, value, size):
         return a[:place] + number(value, size) + a[place + size:]
@@ -235,6 +244,9 @@ class FormTest(unittest.TestCase):
             numbers = model_read(a)
             expected = [-3] if numbers is None else written(numbers, 1)
             self.assertEqual(join(1, 1, ROOM, a, EMPTY), expected, a)
+            self.assertEqual(flip(1, 0, 1, ROOM, a), expected, a)
+            self.assertEqual(move(0, 1, ROOM, a), expected, a)
+            self.assertEqual(count(a), [-3] if numbers is None else [len(numbers)], a)
 
 
 if __name__ == "__main__":

@@ -2,27 +2,8 @@ import unittest
 from random import Random
 
 from packedsets.sets import join, make
-from tests.helper import EMPTY, ROOM, model_join, packed, packed_spans, parts_of, shorter_as_runs, written
-
-
-def mixed_numbers(random):
-    """Numbers of a few parts: sparse, dense, in spans or full."""
-    numbers = []
-    for key in random.sample(range(6), random.randrange(5)):
-        base = 65536 * key
-        kind = random.randrange(5)
-        if kind == 0:
-            numbers.extend(base + random.randrange(65536) for i in range(random.randrange(1, 30)))
-        elif kind == 1:
-            numbers.extend(range(base + random.randrange(2), base + 65536, random.randrange(2, 15)))
-        elif kind == 2:
-            first = random.randrange(60000)
-            numbers.extend(range(base + first, base + first + random.randrange(1, 5000)))
-        elif kind == 3:
-            numbers.extend(range(base, base + 65536))
-        else:
-            numbers.extend(base + 100 * i + j for i in range(20) for j in range(random.randrange(1, 9)))
-    return numbers
+from tests.helper import EMPTY, ROOM, mixed_numbers, model_join, packed, packed_spans, parts_of
+from tests.helper import shorter_as_runs, written
 
 
 class JoinTest(unittest.TestCase):
