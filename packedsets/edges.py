@@ -8,7 +8,8 @@ Spans hold hundreds of millions of numbers in little room, so nothing here goes 
 LIMIT = 4294967296
 BEYOND = 4294967297
 
-# One how of join.
+# Two of the hows of join.
+IN_BOTH = 0
 IN_JUST_ONE = 2
 
 # For each how of join: is a number in it that is in neither, in b alone, in a alone, in both?
@@ -68,6 +69,10 @@ def join_edges(how, left, right):
             edges.append(at)
         at = min(left_edges[i], right_edges[j])
     return edges
+
+
+def count_within(edges, first, last):
+    return count_numbers(join_edges(IN_BOTH, edges, edges_of_pairs([first, last])))
 
 
 def flip_edges(edges, first, last):

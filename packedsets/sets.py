@@ -1,6 +1,7 @@
 """The calls: each takes plain values and answers one list of whole numbers."""
 
-from packedsets.edges import count_numbers, edges_of_numbers, edges_of_pairs, flip_edges, join_edges, move_edges
+from packedsets.edges import count_numbers, count_within, edges_of_numbers, edges_of_pairs
+from packedsets.edges import flip_edges, join_edges, move_edges
 from packedsets.reader import NotASet, read_edges
 from packedsets.writer import plan_parts, set_bytes, set_size
 
@@ -11,6 +12,10 @@ NO_ROOM = -7
 MOST_ROOM = 16777216
 LAST_HOW = 3
 FARTHEST = 4294967296
+
+
+def may_join(how):
+    return 0 <= how <= LAST_HOW
 
 
 def may_write(runs, room):
@@ -38,7 +43,7 @@ def ranges(runs, room, x):
 
 
 def join(how, runs, room, a, b):
-    if not 0 <= how <= LAST_HOW or not may_write(runs, room):
+    if not may_join(how) or not may_write(runs, room):
         return [OUT_OF_RANGE]
     try:
         left = read_edges(a)
@@ -74,3 +79,30 @@ def count(a):
     except NotASet:
         return [NOT_A_SET]
     return [count_numbers(edges)]
+
+
+def common(how, a, b):
+    if not may_join(how):
+        return [OUT_OF_RANGE]
+    try:
+        left = read_edges(a)
+        right = read_edges(b)
+    except NotASet:
+        return [NOT_A_SET]
+    return [count_numbers(join_edges(how, left, right))]
+
+
+def has(x, a):
+    try:
+        edges = read_edges(a)
+    except NotASet:
+        return [NOT_A_SET]
+    return [count_within(edges, x, x)]
+
+
+def rank(x, a):
+    try:
+        edges = read_edges(a)
+    except NotASet:
+        return [NOT_A_SET]
+    return [count_within(edges, 0, x)]

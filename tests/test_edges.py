@@ -2,7 +2,7 @@
 
 import unittest
 
-from packedsets.edges import edges_of_numbers, edges_of_pairs, flip_edges, join_edges, move_edges
+from packedsets.edges import count_within, edges_of_numbers, edges_of_pairs, flip_edges, join_edges, move_edges
 from packedsets.reader import read_edges
 from tests.helper import packed
 
@@ -29,6 +29,14 @@ class EdgesTest(unittest.TestCase):
         self.assertEqual(join_edges(2, left, right), [0, 5, 10, 40])
         self.assertEqual(join_edges(3, left, right), [0, 5, 20, 30])
         self.assertEqual(join_edges(3, [0, 4294967296], right), [0, 5, 20, 30, 40, 4294967296])
+
+    def test_count_within(self):
+        edges = [10, 20, 30, 4294967296]
+        self.assertEqual(count_within(edges, 0, 9), 0)
+        self.assertEqual(count_within(edges, 0, 10), 1)
+        self.assertEqual(count_within(edges, 19, 30), 2)
+        self.assertEqual(count_within(edges, 4294967295, 4294967295), 1)
+        self.assertEqual(count_within([], 0, 4294967295), 0)
 
     def test_flip(self):
         self.assertEqual(flip_edges([10, 20], 5, 9), [5, 20])

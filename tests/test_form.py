@@ -2,7 +2,7 @@ import struct
 import unittest
 from random import Random
 
-from packedsets.sets import count, flip, join, move
+from packedsets.sets import common, count, flip, has, join, move, rank
 from tests.helper import EMPTY, ROOM, assemble, model_read, packed, written
 
 
@@ -23,12 +23,17 @@ class FormTest(unittest.TestCase):
         for how in range(4):
             self.assertEqual(join(how, 0, ROOM, a, EMPTY), [-3])
             self.assertEqual(join(how, 1, ROOM, EMPTY, a), [-3])
+            self.assertEqual(common(how, a, EMPTY), [-3])
+            self.assertEqual(common(how, EMPTY, a), [-3])
         # Not even where what is asked for doesn't turn on what a holds.
         for start, to in ((0, 4294967295), (5, 5), (1, 0)):
             self.assertEqual(flip(start, to, 1, ROOM, a), [-3])
         for by in (-4294967296, 0, 1, 4294967296):
             self.assertEqual(move(by, 0, ROOM, a), [-3])
         self.assertEqual(count(a), [-3])
+        for x in (0, 5, 4294967295):
+            self.assertEqual(has(x, a), [-3])
+            self.assertEqual(rank(x, a), [-3])
         self.assertIsNone(model_read(a))
 
     def taken(self, a, numbers):
@@ -37,6 +42,10 @@ class FormTest(unittest.TestCase):
         self.assertEqual(flip(1, 0, 1, ROOM, a), written(numbers, 1))
         self.assertEqual(move(0, 0, ROOM, a), written(numbers, 0))
         self.assertEqual(count(a), [len(numbers)])
+        self.assertEqual(common(1, a, EMPTY), [len(numbers)])
+        self.assertEqual(common(2, EMPTY, a), [len(numbers)])
+        self.assertEqual(rank(4294967295, a), [len(numbers)])
+        self.assertEqual(has(70000, a), [1 if 70000 in numbers else 0])
 
     def changed(self, a, place, value, size):
         return a[:place] + number(value, size) + a[place + size:]
@@ -221,6 +230,9 @@ class FormTest(unittest.TestCase):
             self.assertEqual(join(how, 0, ROOM, good, bad), [-3])
             self.assertEqual(join(how, 0, ROOM, bad, good), [-3])
             self.assertEqual(join(how, 0, ROOM, bad, bad), [-3])
+            self.assertEqual(common(how, good, bad), [-3])
+            self.assertEqual(common(how, bad, good), [-3])
+            self.assertEqual(common(how, bad, bad), [-3])
 
     def test_each_sample_is_taken(self):
         for a in self.samples():
@@ -246,7 +258,12 @@ class FormTest(unittest.TestCase):
             self.assertEqual(join(1, 1, ROOM, a, EMPTY), expected, a)
             self.assertEqual(flip(1, 0, 1, ROOM, a), expected, a)
             self.assertEqual(move(0, 1, ROOM, a), expected, a)
-            self.assertEqual(count(a), [-3] if numbers is None else [len(numbers)], a)
+            amount = [-3] if numbers is None else [len(numbers)]
+            self.assertEqual(count(a), amount, a)
+            self.assertEqual(common(3, a, EMPTY), amount, a)
+            self.assertEqual(common(1, EMPTY, a), amount, a)
+            self.assertEqual(rank(4294967295, a), amount, a)
+            self.assertEqual(has(6, a), [-3] if numbers is None else [1 if 6 in numbers else 0], a)
 
 
 if __name__ == "__main__":

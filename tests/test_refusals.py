@@ -1,6 +1,6 @@
 import unittest
 
-from packedsets.sets import count, flip, join, make, move, ranges
+from packedsets.sets import common, count, flip, has, join, make, move, rank, ranges
 from tests.helper import EMPTY, ROOM, packed
 
 LEAST = -2147483648
@@ -47,8 +47,11 @@ class RangeTest(unittest.TestCase):
     def test_how(self):
         for how in (LEAST, -1, 4, GREATEST):
             self.assertEqual(join(how, 0, ROOM, EMPTY, EMPTY), [-2])
+            self.assertEqual(common(how, EMPTY, EMPTY), [-2])
+            self.assertEqual(common(how, packed([5]), packed([5])), [-2])
         for how in (0, 1, 2, 3):
             self.assertEqual(join(how, 0, ROOM, EMPTY, EMPTY)[0], 8)
+            self.assertEqual(common(how, EMPTY, EMPTY), [0])
 
     def test_by(self):
         for by in TOO_FAR:
@@ -66,6 +69,8 @@ class OrderTest(unittest.TestCase):
             self.assertEqual(join(0, 2, ROOM, a, b), [-2])
             self.assertEqual(join(0, 0, -1, a, b), [-2])
             self.assertEqual(join(0, 0, 16777217, a, b), [-2])
+            for how in (LEAST, -1, 4, GREATEST):
+                self.assertEqual(common(how, a, b), [-2])
 
     def test_range_ahead_of_form_of_one_set(self):
         for runs, room in ((-1, ROOM), (2, ROOM), (0, -1), (1, 16777217), (LEAST, GREATEST)):
@@ -96,7 +101,15 @@ class OrderTest(unittest.TestCase):
             self.assertEqual(flip(2, 1, 1, room, BAD_SET), [-3])
             self.assertEqual(move(1, 0, room, BAD_SET), [-3])
             self.assertEqual(move(FARTHEST, 1, room, BAD_SET), [-3])
+
+    def test_form_alone(self):
         self.assertEqual(count(BAD_SET), [-3])
+        for x in (0, 4294967295):
+            self.assertEqual(has(x, BAD_SET), [-3])
+            self.assertEqual(rank(x, BAD_SET), [-3])
+        for a, b in ((BAD_SET, EMPTY), (EMPTY, BAD_SET), (BAD_SET, BAD_SET)):
+            for how in range(4):
+                self.assertEqual(common(how, a, b), [-3])
 
 
 class RoomTest(unittest.TestCase):
