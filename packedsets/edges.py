@@ -75,8 +75,17 @@ def count_within(edges, first, last):
     return count_numbers(join_edges(IN_BOTH, edges, edges_of_pairs([first, last])))
 
 
+# A span that start lies within is cut to begin there, not left out.
+def edges_from(edges, start):
+    return join_edges(IN_BOTH, edges, [start, LIMIT])
+
+
 def flip_edges(edges, first, last):
     return join_edges(IN_JUST_ONE, edges, edges_of_pairs([first, last]))
+
+
+def edges_outside(edges):
+    return join_edges(IN_JUST_ONE, edges, [0, LIMIT])
 
 
 # Spans are apart by as much as before, so none comes to touch another.
@@ -89,3 +98,22 @@ def move_edges(edges, by):
             moved.append(first)
             moved.append(end)
     return moved
+
+
+# Number i in order, of a set that has more than i.
+def pick_number(edges, i):
+    at = 0
+    passed = 0
+    while passed + edges[at + 1] - edges[at] <= i:
+        passed += edges[at + 1] - edges[at]
+        at += 2
+    return edges[at] + i - passed
+
+
+# A span may have far more numbers than there is room for, so only those that find room are told one by one.
+def first_numbers(edges, room):
+    found = []
+    for i in range(0, len(edges), 2):
+        end = min(edges[i + 1], edges[i] + room - len(found))
+        found.extend(list(range(edges[i], end)))
+    return found

@@ -1,12 +1,13 @@
 """The calls: each takes plain values and answers one list of whole numbers."""
 
-from packedsets.edges import count_numbers, count_within, edges_of_numbers, edges_of_pairs
-from packedsets.edges import flip_edges, join_edges, move_edges
+from packedsets.edges import count_numbers, count_within, edges_from, edges_of_numbers, edges_of_pairs, edges_outside
+from packedsets.edges import first_numbers, flip_edges, join_edges, move_edges, pick_number
 from packedsets.reader import NotASet, read_edges
 from packedsets.writer import plan_parts, set_bytes, set_size
 
 OUT_OF_RANGE = -2
 NOT_A_SET = -3
+NONE_THERE = -5
 NO_ROOM = -7
 
 MOST_ROOM = 16777216
@@ -18,8 +19,12 @@ def may_join(how):
     return 0 <= how <= LAST_HOW
 
 
+def may_fill(room):
+    return 0 <= room <= MOST_ROOM
+
+
 def may_write(runs, room):
-    return 0 <= runs <= 1 and 0 <= room <= MOST_ROOM
+    return 0 <= runs <= 1 and may_fill(room)
 
 
 def answer_set(edges, runs, room):
@@ -106,3 +111,35 @@ def rank(x, a):
     except NotASet:
         return [NOT_A_SET]
     return [count_within(edges, 0, x)]
+
+
+def select(i, a):
+    try:
+        edges = read_edges(a)
+    except NotASet:
+        return [NOT_A_SET]
+    if i >= count_numbers(edges):
+        return [NONE_THERE]
+    return [pick_number(edges, i)]
+
+
+def least(start, inside, a):
+    if not 0 <= inside <= 1:
+        return [OUT_OF_RANGE]
+    try:
+        edges = read_edges(a)
+    except NotASet:
+        return [NOT_A_SET]
+    sought = edges_from(edges if inside == 1 else edges_outside(edges), start)
+    return [sought[0]] if len(sought) > 0 else [NONE_THERE]
+
+
+def numbers(start, room, a):
+    if not may_fill(room):
+        return [OUT_OF_RANGE]
+    try:
+        edges = read_edges(a)
+    except NotASet:
+        return [NOT_A_SET]
+    found = first_numbers(edges_from(edges, start), room)
+    return [len(found)] + found

@@ -2,7 +2,8 @@
 
 import unittest
 
-from packedsets.edges import count_within, edges_of_numbers, edges_of_pairs, flip_edges, join_edges, move_edges
+from packedsets.edges import count_within, edges_from, edges_of_numbers, edges_of_pairs, edges_outside
+from packedsets.edges import first_numbers, flip_edges, join_edges, move_edges, pick_number
 from packedsets.reader import read_edges
 from tests.helper import packed
 
@@ -37,6 +38,34 @@ class EdgesTest(unittest.TestCase):
         self.assertEqual(count_within(edges, 19, 30), 2)
         self.assertEqual(count_within(edges, 4294967295, 4294967295), 1)
         self.assertEqual(count_within([], 0, 4294967295), 0)
+
+    def test_from(self):
+        edges = [10, 20, 30, 4294967296]
+        self.assertEqual(edges_from(edges, 10), edges)
+        self.assertEqual(edges_from(edges, 19), [19, 20, 30, 4294967296])
+        self.assertEqual(edges_from(edges, 20), [30, 4294967296])
+        self.assertEqual(edges_from(edges, 4294967295), [4294967295, 4294967296])
+        self.assertEqual(edges_from([10, 20], 20), [])
+        self.assertEqual(edges_from([], 0), [])
+
+    def test_outside(self):
+        self.assertEqual(edges_outside([]), [0, 4294967296])
+        self.assertEqual(edges_outside([0, 4294967296]), [])
+        self.assertEqual(edges_outside([10, 20]), [0, 10, 20, 4294967296])
+        self.assertEqual(edges_outside([0, 10, 20, 4294967296]), [10, 20])
+
+    def test_pick(self):
+        edges = [10, 12, 20, 21, 30, 4294967296]
+        self.assertEqual([pick_number(edges, i) for i in range(5)], [10, 11, 20, 30, 31])
+        self.assertEqual(pick_number(edges, 4294967268), 4294967295)
+
+    def test_first_numbers(self):
+        edges = [10, 12, 20, 21, 30, 4294967296]
+        listed = [10, 11, 20, 30, 31, 32]
+        for room in range(7):
+            self.assertEqual(first_numbers(edges, room), listed[:room])
+        self.assertEqual(first_numbers([10, 12], 3), [10, 11])
+        self.assertEqual(first_numbers([], 3), [])
 
     def test_flip(self):
         self.assertEqual(flip_edges([10, 20], 5, 9), [5, 20])

@@ -2,7 +2,7 @@ import struct
 import unittest
 from random import Random
 
-from packedsets.sets import common, count, flip, has, join, move, rank
+from packedsets.sets import common, count, flip, has, join, least, move, numbers, rank, select
 from tests.helper import EMPTY, ROOM, assemble, model_read, packed, written
 
 
@@ -34,18 +34,27 @@ class FormTest(unittest.TestCase):
         for x in (0, 5, 4294967295):
             self.assertEqual(has(x, a), [-3])
             self.assertEqual(rank(x, a), [-3])
+            for inside in (0, 1):
+                self.assertEqual(least(x, inside, a), [-3])
+            for room in (0, 1, 20000):
+                self.assertEqual(numbers(x, room, a), [-3])
+        for i in (0, 1, 18446744073709551615):
+            self.assertEqual(select(i, a), [-3])
         self.assertIsNone(model_read(a))
 
-    def taken(self, a, numbers):
-        self.assertEqual(join(1, 0, ROOM, a, EMPTY), written(numbers, 0))
-        self.assertEqual(join(1, 1, ROOM, EMPTY, a), written(numbers, 1))
-        self.assertEqual(flip(1, 0, 1, ROOM, a), written(numbers, 1))
-        self.assertEqual(move(0, 0, ROOM, a), written(numbers, 0))
-        self.assertEqual(count(a), [len(numbers)])
-        self.assertEqual(common(1, a, EMPTY), [len(numbers)])
-        self.assertEqual(common(2, EMPTY, a), [len(numbers)])
-        self.assertEqual(rank(4294967295, a), [len(numbers)])
-        self.assertEqual(has(70000, a), [1 if 70000 in numbers else 0])
+    def taken(self, a, members):
+        self.assertEqual(join(1, 0, ROOM, a, EMPTY), written(members, 0))
+        self.assertEqual(join(1, 1, ROOM, EMPTY, a), written(members, 1))
+        self.assertEqual(flip(1, 0, 1, ROOM, a), written(members, 1))
+        self.assertEqual(move(0, 0, ROOM, a), written(members, 0))
+        self.assertEqual(count(a), [len(members)])
+        self.assertEqual(common(1, a, EMPTY), [len(members)])
+        self.assertEqual(common(2, EMPTY, a), [len(members)])
+        self.assertEqual(rank(4294967295, a), [len(members)])
+        self.assertEqual(has(70000, a), [1 if 70000 in members else 0])
+        self.assertEqual(numbers(0, 20000, a), [min(len(members), 20000)] + list(members[:20000]))
+        self.assertEqual(least(0, 1, a), [members[0]] if members else [-5])
+        self.assertEqual(select(max(len(members), 1) - 1, a), [members[-1]] if members else [-5])
 
     def changed(self, a, place, value, size):
         return a[:place] + number(value, size) + a[place + size:]
@@ -253,17 +262,22 @@ class FormTest(unittest.TestCase):
                 a.pop(place)
             else:
                 a.insert(place, random.choice((0, 1, a[place])))
-            numbers = model_read(a)
-            expected = [-3] if numbers is None else written(numbers, 1)
+            members = model_read(a)
+            expected = [-3] if members is None else written(members, 1)
             self.assertEqual(join(1, 1, ROOM, a, EMPTY), expected, a)
             self.assertEqual(flip(1, 0, 1, ROOM, a), expected, a)
             self.assertEqual(move(0, 1, ROOM, a), expected, a)
-            amount = [-3] if numbers is None else [len(numbers)]
+            amount = [-3] if members is None else [len(members)]
             self.assertEqual(count(a), amount, a)
             self.assertEqual(common(3, a, EMPTY), amount, a)
             self.assertEqual(common(1, EMPTY, a), amount, a)
             self.assertEqual(rank(4294967295, a), amount, a)
-            self.assertEqual(has(6, a), [-3] if numbers is None else [1 if 6 in numbers else 0], a)
+            self.assertEqual(has(6, a), [-3] if members is None else [1 if 6 in members else 0], a)
+            listed = [-3] if members is None else [min(len(members), 20000)] + members[:20000]
+            self.assertEqual(numbers(0, 20000, a), listed, a)
+            front = [-3] if members is None else members[:1] or [-5]
+            self.assertEqual(select(0, a), front, a)
+            self.assertEqual(least(0, 1, a), front, a)
 
 
 if __name__ == "__main__":

@@ -1,6 +1,6 @@
 import unittest
 
-from packedsets.sets import common, count, flip, has, join, make, move, rank, ranges
+from packedsets.sets import common, count, flip, has, join, least, make, move, numbers, rank, ranges, select
 from tests.helper import EMPTY, ROOM, packed
 
 LEAST = -2147483648
@@ -33,6 +33,9 @@ class RangeTest(unittest.TestCase):
             self.assertEqual(join(0, 0, room, EMPTY, EMPTY), [-2])
             self.assertEqual(flip(1, 2, 0, room, EMPTY), [-2])
             self.assertEqual(move(1, 0, room, EMPTY), [-2])
+            for start in (0, 5, 6, 4294967295):
+                self.assertEqual(numbers(start, room, EMPTY), [-2])
+                self.assertEqual(numbers(start, room, packed([5])), [-2])
         self.assertEqual(make(0, 16777216, [])[0], 8)
         self.assertEqual(ranges(0, 16777216, [])[0], 8)
         self.assertEqual(join(0, 0, 16777216, EMPTY, EMPTY)[0], 8)
@@ -43,6 +46,17 @@ class RangeTest(unittest.TestCase):
         self.assertEqual(join(0, 0, 0, EMPTY, EMPTY), [-7])
         self.assertEqual(flip(2, 1, 0, 0, EMPTY), [-7])
         self.assertEqual(move(1, 0, 0, EMPTY), [-7])
+        self.assertEqual(numbers(0, 0, packed([5])), [0])
+        self.assertEqual(numbers(0, 20000, packed([5])), [1, 5])
+        self.assertEqual(numbers(0, 16777216, packed([5])), [1, 5])
+
+    def test_inside(self):
+        for inside in (LEAST, -1, 2, GREATEST):
+            for start in (0, 5, 4294967295):
+                self.assertEqual(least(start, inside, EMPTY), [-2])
+                self.assertEqual(least(start, inside, packed([5])), [-2])
+        self.assertEqual(least(0, 0, packed([5])), [0])
+        self.assertEqual(least(0, 1, packed([5])), [5])
 
     def test_how(self):
         for how in (LEAST, -1, 4, GREATEST):
@@ -81,6 +95,13 @@ class OrderTest(unittest.TestCase):
         for by in TOO_FAR:
             self.assertEqual(move(by, 0, ROOM, BAD_SET), [-2])
             self.assertEqual(move(by, 1, ROOM, []), [-2])
+        for start in (0, 4294967295):
+            for inside in (LEAST, -1, 2, GREATEST):
+                self.assertEqual(least(start, inside, BAD_SET), [-2])
+                self.assertEqual(least(start, inside, []), [-2])
+            for room in (LEAST, -1, 16777217, GREATEST):
+                self.assertEqual(numbers(start, room, BAD_SET), [-2])
+                self.assertEqual(numbers(start, room, []), [-2])
 
     def test_range_ahead_of_room(self):
         self.assertEqual(make(2, 0, [1]), [-2])
@@ -107,6 +128,12 @@ class OrderTest(unittest.TestCase):
         for x in (0, 4294967295):
             self.assertEqual(has(x, BAD_SET), [-3])
             self.assertEqual(rank(x, BAD_SET), [-3])
+            for inside in (0, 1):
+                self.assertEqual(least(x, inside, BAD_SET), [-3])
+            for room in (0, 1, 20000):
+                self.assertEqual(numbers(x, room, BAD_SET), [-3])
+        for i in (0, 3, 4294967296, 18446744073709551615):
+            self.assertEqual(select(i, BAD_SET), [-3])
         for a, b in ((BAD_SET, EMPTY), (EMPTY, BAD_SET), (BAD_SET, BAD_SET)):
             for how in range(4):
                 self.assertEqual(common(how, a, b), [-3])
