@@ -20,6 +20,13 @@ IN_JOINED = (
     (0, 0, 1, 0),
 )
 
+# How two sets may lie to one another.
+APART = 0
+SAME = 1
+LEFT_IN_RIGHT = 2
+RIGHT_IN_LEFT = 3
+CROSSING = 4
+
 
 # Spans come by their first numbers in order, so only the last one can be met by a new one.
 def add_span(edges, first, end):
@@ -117,3 +124,22 @@ def first_numbers(edges, room):
         end = min(edges[i + 1], edges[i] + room - len(found))
         found.extend(list(range(edges[i], end)))
     return found
+
+
+# A pair ends with the span's last number, while the edge is the first one behind it.
+def first_pairs(edges, room):
+    return [edge - i % 2 for i, edge in enumerate(edges[:2 * room])]
+
+
+# Spans are as long as can be, so that sets are the same just if their edges are.
+def compare_edges(left, right):
+    both = join_edges(IN_BOTH, left, right)
+    if len(both) == 0 and len(left) > 0 and len(right) > 0:
+        return APART
+    if left == right:
+        return SAME
+    if both == left:
+        return LEFT_IN_RIGHT
+    if both == right:
+        return RIGHT_IN_LEFT
+    return CROSSING

@@ -1,7 +1,7 @@
 """The calls: each takes plain values and answers one list of whole numbers."""
 
-from packedsets.edges import count_numbers, count_within, edges_from, edges_of_numbers, edges_of_pairs, edges_outside
-from packedsets.edges import first_numbers, flip_edges, join_edges, move_edges, pick_number
+from packedsets.edges import compare_edges, count_numbers, count_within, edges_from, edges_of_numbers, edges_of_pairs
+from packedsets.edges import edges_outside, first_numbers, first_pairs, flip_edges, join_edges, move_edges, pick_number
 from packedsets.reader import NotASet, read_edges
 from packedsets.writer import plan_parts, set_bytes, set_size
 
@@ -143,3 +143,23 @@ def numbers(start, room, a):
         return [NOT_A_SET]
     found = first_numbers(edges_from(edges, start), room)
     return [len(found)] + found
+
+
+def spans(start, room, a):
+    if not may_fill(room):
+        return [OUT_OF_RANGE]
+    try:
+        edges = read_edges(a)
+    except NotASet:
+        return [NOT_A_SET]
+    found = first_pairs(edges_from(edges, start), room)
+    return [len(found) // 2] + found
+
+
+def same(a, b):
+    try:
+        left = read_edges(a)
+        right = read_edges(b)
+    except NotASet:
+        return [NOT_A_SET]
+    return [compare_edges(left, right)]

@@ -159,6 +159,12 @@ def model_move(by, a):
     return [number + by for number in a if 0 <= number + by <= 4294967295]
 
 
+def model_spans(start, room, members):
+    """What spans answers for these numbers, which rise."""
+    pairs = runs_of([member for member in members if member >= start])[:room]
+    return [len(pairs)] + [end for pair in pairs for end in pair]
+
+
 def mixed_numbers(random):
     """Numbers of a few parts: sparse, dense, in spans or full."""
     numbers = []

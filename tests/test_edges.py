@@ -2,8 +2,8 @@
 
 import unittest
 
-from packedsets.edges import count_within, edges_from, edges_of_numbers, edges_of_pairs, edges_outside
-from packedsets.edges import first_numbers, flip_edges, join_edges, move_edges, pick_number
+from packedsets.edges import compare_edges, count_within, edges_from, edges_of_numbers, edges_of_pairs, edges_outside
+from packedsets.edges import first_numbers, first_pairs, flip_edges, join_edges, move_edges, pick_number
 from packedsets.reader import read_edges
 from tests.helper import packed
 
@@ -66,6 +66,26 @@ class EdgesTest(unittest.TestCase):
             self.assertEqual(first_numbers(edges, room), listed[:room])
         self.assertEqual(first_numbers([10, 12], 3), [10, 11])
         self.assertEqual(first_numbers([], 3), [])
+
+    def test_first_pairs(self):
+        edges = [10, 12, 20, 21, 30, 4294967296]
+        self.assertEqual(first_pairs(edges, 0), [])
+        self.assertEqual(first_pairs(edges, 1), [10, 11])
+        self.assertEqual(first_pairs(edges, 2), [10, 11, 20, 20])
+        self.assertEqual(first_pairs(edges, 3), [10, 11, 20, 20, 30, 4294967295])
+        self.assertEqual(first_pairs(edges, 4), first_pairs(edges, 3))
+        self.assertEqual(first_pairs([], 4), [])
+
+    def test_compare(self):
+        edges = [10, 20, 30, 40]
+        expected = (
+            ([], 3), (edges, 1), ([0, 10, 20, 30, 40, 50], 0), ([10, 20], 3), ([31, 40], 3), ([10, 40], 2),
+            ([10, 20, 30, 41], 2), ([15, 25], 4), ([5, 15], 4), ([10, 20, 31, 41], 4),
+        )
+        for other, answer in expected:
+            self.assertEqual(compare_edges(edges, other), answer, other)
+            self.assertEqual(compare_edges(other, edges), {2: 3, 3: 2}.get(answer, answer), other)
+        self.assertEqual(compare_edges([], []), 1)
 
     def test_flip(self):
         self.assertEqual(flip_edges([10, 20], 5, 9), [5, 20])

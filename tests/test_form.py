@@ -2,8 +2,8 @@ import struct
 import unittest
 from random import Random
 
-from packedsets.sets import common, count, flip, has, join, least, move, numbers, rank, select
-from tests.helper import EMPTY, ROOM, assemble, model_read, packed, written
+from packedsets.sets import common, count, flip, has, join, least, move, numbers, rank, same, select, spans
+from tests.helper import EMPTY, ROOM, assemble, model_read, model_spans, packed, written
 
 
 def number(value, size):
@@ -38,6 +38,10 @@ class FormTest(unittest.TestCase):
                 self.assertEqual(least(x, inside, a), [-3])
             for room in (0, 1, 20000):
                 self.assertEqual(numbers(x, room, a), [-3])
+                self.assertEqual(spans(x, room, a), [-3])
+        for other in (EMPTY, packed([5, 70000]), a):
+            self.assertEqual(same(a, other), [-3])
+            self.assertEqual(same(other, a), [-3])
         for i in (0, 1, 18446744073709551615):
             self.assertEqual(select(i, a), [-3])
         self.assertIsNone(model_read(a))
@@ -53,6 +57,9 @@ class FormTest(unittest.TestCase):
         self.assertEqual(rank(4294967295, a), [len(members)])
         self.assertEqual(has(70000, a), [1 if 70000 in members else 0])
         self.assertEqual(numbers(0, 20000, a), [min(len(members), 20000)] + list(members[:20000]))
+        self.assertEqual(spans(0, ROOM, a), model_spans(0, ROOM, members))
+        self.assertEqual(same(a, packed(members)), [1])
+        self.assertEqual(same(a, EMPTY), [3 if members else 1])
         self.assertEqual(least(0, 1, a), [members[0]] if members else [-5])
         self.assertEqual(select(max(len(members), 1) - 1, a), [members[-1]] if members else [-5])
 
@@ -242,6 +249,9 @@ class FormTest(unittest.TestCase):
             self.assertEqual(common(how, good, bad), [-3])
             self.assertEqual(common(how, bad, good), [-3])
             self.assertEqual(common(how, bad, bad), [-3])
+        self.assertEqual(same(good, bad), [-3])
+        self.assertEqual(same(bad, good), [-3])
+        self.assertEqual(same(bad, bad), [-3])
 
     def test_each_sample_is_taken(self):
         for a in self.samples():
@@ -275,6 +285,9 @@ class FormTest(unittest.TestCase):
             self.assertEqual(has(6, a), [-3] if members is None else [1 if 6 in members else 0], a)
             listed = [-3] if members is None else [min(len(members), 20000)] + members[:20000]
             self.assertEqual(numbers(0, 20000, a), listed, a)
+            self.assertEqual(spans(0, ROOM, a), [-3] if members is None else model_spans(0, ROOM, members), a)
+            self.assertEqual(same(a, a), [-3] if members is None else [1], a)
+            self.assertEqual(same(EMPTY, a), [-3] if members is None else [2 if members else 1], a)
             front = [-3] if members is None else members[:1] or [-5]
             self.assertEqual(select(0, a), front, a)
             self.assertEqual(least(0, 1, a), front, a)

@@ -81,7 +81,7 @@ class NumbersTest(unittest.TestCase):
 
     def test_mixtures(self):
         random = Random(23)
-        for i in range(20):
+        for i in range(12):
             members = sorted(set(mixed_numbers(random)))
             run_keys = [key for key in range(6) if random.randrange(2)]
             starts = [0, random.randrange(7 * 65536)] + random.sample(members, min(2, len(members)))

@@ -1,6 +1,7 @@
 import unittest
 
-from packedsets.sets import common, count, flip, has, join, least, make, move, numbers, rank, ranges, select
+from packedsets.sets import common, count, flip, has, join, least, make, move
+from packedsets.sets import numbers, rank, ranges, same, select, spans
 from tests.helper import EMPTY, ROOM, packed
 
 LEAST = -2147483648
@@ -36,6 +37,8 @@ class RangeTest(unittest.TestCase):
             for start in (0, 5, 6, 4294967295):
                 self.assertEqual(numbers(start, room, EMPTY), [-2])
                 self.assertEqual(numbers(start, room, packed([5])), [-2])
+                self.assertEqual(spans(start, room, EMPTY), [-2])
+                self.assertEqual(spans(start, room, packed([5])), [-2])
         self.assertEqual(make(0, 16777216, [])[0], 8)
         self.assertEqual(ranges(0, 16777216, [])[0], 8)
         self.assertEqual(join(0, 0, 16777216, EMPTY, EMPTY)[0], 8)
@@ -49,6 +52,8 @@ class RangeTest(unittest.TestCase):
         self.assertEqual(numbers(0, 0, packed([5])), [0])
         self.assertEqual(numbers(0, 20000, packed([5])), [1, 5])
         self.assertEqual(numbers(0, 16777216, packed([5])), [1, 5])
+        self.assertEqual(spans(0, 0, packed([5])), [0])
+        self.assertEqual(spans(0, 16777216, packed([5])), [1, 5, 5])
 
     def test_inside(self):
         for inside in (LEAST, -1, 2, GREATEST):
@@ -102,6 +107,8 @@ class OrderTest(unittest.TestCase):
             for room in (LEAST, -1, 16777217, GREATEST):
                 self.assertEqual(numbers(start, room, BAD_SET), [-2])
                 self.assertEqual(numbers(start, room, []), [-2])
+                self.assertEqual(spans(start, room, BAD_SET), [-2])
+                self.assertEqual(spans(start, room, []), [-2])
 
     def test_range_ahead_of_room(self):
         self.assertEqual(make(2, 0, [1]), [-2])
@@ -132,11 +139,14 @@ class OrderTest(unittest.TestCase):
                 self.assertEqual(least(x, inside, BAD_SET), [-3])
             for room in (0, 1, 20000):
                 self.assertEqual(numbers(x, room, BAD_SET), [-3])
+            for room in (0, 1, ROOM):
+                self.assertEqual(spans(x, room, BAD_SET), [-3])
         for i in (0, 3, 4294967296, 18446744073709551615):
             self.assertEqual(select(i, BAD_SET), [-3])
         for a, b in ((BAD_SET, EMPTY), (EMPTY, BAD_SET), (BAD_SET, BAD_SET)):
             for how in range(4):
                 self.assertEqual(common(how, a, b), [-3])
+            self.assertEqual(same(a, b), [-3])
 
 
 class RoomTest(unittest.TestCase):
